@@ -1,0 +1,1 @@
+"""An inspector comes: seasons of looks and misdeeds, played and reckoned."""
