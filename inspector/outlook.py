@@ -1,6 +1,6 @@
 """What a season of days that aren't alike comes to, if both play best."""
 
-from inspector.ratio import ONE, ZERO, divided, from_whole, is_less, minus, plus, times
+from inspector.ratio import ONE, ZERO, divided, from_whole, is_less, minus, mixed, plus, times
 
 
 class Outlook:
@@ -26,9 +26,7 @@ class Outlook:
         if looks == 0:
             return self.unseen(t, looks, misdeeds)
         chance = self.look_chance(t, looks, misdeeds)
-        looked_at = times(chance, self.waited(t, looks, misdeeds))
-        not_looked_at = times(minus(ONE, chance), self.neither(t, looks, misdeeds))
-        return plus(looked_at, not_looked_at)
+        return mixed(chance, self.waited(t, looks, misdeeds), self.neither(t, looks, misdeeds))
 
     def seen(self):
         """Looked at, and dared."""

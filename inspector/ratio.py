@@ -43,6 +43,19 @@ def is_less(first, second):
     return first[0] * second[1] < second[0] * first[1]
 
 
+def greater(first, second):
+    return second if is_less(first, second) else first
+
+
+def lesser(first, second):
+    return first if is_less(first, second) else second
+
+
+def mixed(chance, first, second):
+    """The mean of what's the first with this chance, else the second."""
+    return plus(times(chance, first), times(minus(ONE, chance), second))
+
+
 def told_ratios(ratios):
     """The answer that tells these fractions: 0, then each one's two numbers."""
     numbers = [0]

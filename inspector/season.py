@@ -2,6 +2,7 @@
 
 from inspector.dayscalls import DAYS_CALLS
 from inspector.evencalls import EVEN_CALLS
+from inspector.plancalls import PLAN_CALLS
 from inspector.refusals import NOT_BEGUN
 from inspector.whole import Whole
 from inspector.wholecalls import WHOLE_CALLS
@@ -20,7 +21,7 @@ ARGUMENTS = (
 
 def made_call(whole, number, given):
     """Make the call of this number with the numbers given; what it answers."""
-    call = (WHOLE_CALLS + DAYS_CALLS + EVEN_CALLS)[number]
+    call = (WHOLE_CALLS + DAYS_CALLS + EVEN_CALLS + PLAN_CALLS)[number]
     if len(given) == 0:
         return call(whole)
     if len(given) == 1:

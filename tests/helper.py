@@ -1,7 +1,9 @@
-"""Lines of calls by their names, and a second reckoning of the season to hold the program against."""
+"""Lines of calls by their names, and second reckonings to hold the program against."""
 
+import random
 from fractions import Fraction
 from functools import lru_cache
+from itertools import combinations, product
 
 from inspector.season import answers
 
@@ -50,9 +52,36 @@ def ask_last(text):
     return ask(text)[-1]
 
 
+def last_of(line, calls):
+    """What these calls answer behind the line."""
+    return ask(", ".join([line] + list(calls)))[-len(calls):]
+
+
 def laid_out(days, looks, misdeeds, fine):
     """The beginning of a line: a season of these days."""
     return ", ".join([f"begin {looks} {misdeeds} {fine}"] + [f"day {brings}" for brings in days])
+
+
+def made_alike(days, looks, misdeeds, fine):
+    """The beginning of a line: an alike season, also one of more looks or misdeeds than days (1 to 4)."""
+    longer = max(days, looks, misdeeds)
+    # The season's own days bring other than one: the alike season doesn't hang on them.
+    line = laid_out((2, 0, 3, 0)[:longer], looks, misdeeds, fine)
+    return ", ".join([line, "toeven"] + ["evenday 0 0"] * (longer - days))
+
+
+def made_table(days, misdeeds, fine, plans=()):
+    """The beginning of a line: a table of these plans, each a pair of its set and its weight."""
+    calls = [laid_out((2, 0, 3, 0)[:days], 0, 0, 1), "toplans", f"planmisdeeds {misdeeds}", f"planfine {fine}"]
+    return ", ".join(calls + [f"plan {chosen} {weight}" for chosen, weight in plans])
+
+
+def told_as(*values):
+    """The answer that tells these fractions."""
+    numbers = [0]
+    for each in values:
+        numbers += [Fraction(each).numerator, Fraction(each).denominator]
+    return numbers
 
 
 def as_fractions(numbers):
@@ -112,3 +141,120 @@ def every_season(step, longest=4):
                 if counted % step == 0:
                     yield days, rest // 18, rest // 3 % 6, rest % 3 + 1
                 counted += 1
+
+
+def every_alike(fines=(1, 2, 3)):
+    """All alike seasons that can be, at their beginning or behind some days: (days, looks, misdeeds, fine)."""
+    for days, looks, misdeeds, fine in product(range(1, 5), range(5), range(5), fines):
+        yield days, looks, misdeeds, fine
+
+
+def drawn(days, looks, fine):
+    """The best plan of at most so many looks: how likely each set is drawn, by the set as a tuple of days."""
+    heavy = {}
+    for size in range(min(days, looks) + 1):
+        for chosen in combinations(range(days), size):
+            heavy[chosen] = fine ** (looks - size)
+    together = sum(heavy.values())
+    return {chosen: Fraction(weight, together) for chosen, weight in heavy.items()}
+
+
+def drawn_chance(days, looks, fine):
+    """How likely the best plan of at most so many looks has the next day."""
+    return sum((chance for chosen, chance in drawn(days, looks, fine).items() if 0 in chosen), Fraction(0))
+
+
+def daring_chance(days, looks, misdeeds, fine):
+    """The chance of daring by which to look or not is alike to the inspector, on days alike."""
+    if not misdeeds:
+        return Fraction(0)
+    if not looks:
+        return Fraction(1)
+    cases = today((1,) * days, looks, misdeeds, fine)
+    wasted, spared = cases[1, 0] - cases[0, 0], cases[0, 1] - cases[1, 1]
+    return wasted / (wasted + spared)
+
+
+@lru_cache(maxsize=None)
+def alike_end(days, looks, misdeeds, fine):
+    """How likely the other's caught, and how many misdeeds are done unseen, on days alike."""
+    if not days:
+        return Fraction(0), Fraction(0)
+    looking, daring = drawn_chance(days, looks, fine), daring_chance(days, looks, misdeeds, fine)
+    caught, done = looking * daring, (1 - looking) * daring
+    for chance, looks_left, misdeeds_left in (
+        (looking * (1 - daring), looks - 1, misdeeds),
+        ((1 - looking) * daring, looks, misdeeds - 1),
+        ((1 - looking) * (1 - daring), looks, misdeeds),
+    ):
+        if chance:
+            later = alike_end(days - 1, looks_left, misdeeds_left, fine)
+            caught += chance * later[0]
+            done += chance * later[1]
+    return caught, done
+
+
+def answered(plans, days, misdeeds, fine, past=()):
+    """The best answer behind what was seen: what's got by daring, by waiting; then how often caught, how much done.
+
+    Of past each number is 1 for a day that was looked at, 0 for one that wasn't. Daring is None without misdeeds.
+    """
+    t = len(past)
+    if t == days:
+        return None, Fraction(0), Fraction(0), Fraction(0)
+    left = [(chosen, weight) for chosen, weight in plans if all(chosen >> u & 1 == was for u, was in enumerate(past))]
+    looking = Fraction(sum(w for s, w in left if s >> t & 1), sum(w for s, w in left))
+    waiting = [Fraction(0)] * 3
+    for was, chance in ((1, looking), (0, 1 - looking)):
+        if chance:
+            dared, waited, caught, done = answered(plans, days, misdeeds, fine, past + (was,))
+            got = waited if dared is None else max(dared, waited)
+            waiting = [sum_so_far + chance * more for sum_so_far, more in zip(waiting, (got, caught, done))]
+    if not misdeeds:
+        return None, waiting[0], waiting[1], waiting[2]
+    daring = [(1 - looking) - fine * looking, looking, 1 - looking]
+    if looking < 1:
+        dared, waited, caught, done = answered(plans, days, misdeeds - 1, fine, past + (0,))
+        got = waited if dared is None else max(dared, waited)
+        daring = [first + (1 - looking) * more for first, more in zip(daring, (got, caught, done))]
+    chosen = daring if daring[0] >= waiting[0] else waiting
+    return daring[0], waiting[0], chosen[1], chosen[2]
+
+
+def best_got(plans, days, misdeeds, fine, past=()):
+    dared, waited, caught, done = answered(plans, days, misdeeds, fine, past)
+    return waited if dared is None else max(dared, waited)
+
+
+def got_by(strategy, plans, days, misdeeds, fine):
+    """What the other gets who dares (with misdeeds left) where strategy, a dict by the looks seen so far, says so."""
+    got = Fraction(0)
+    for chosen, weight in plans:
+        left = misdeeds
+        for t in range(days):
+            past = tuple(chosen >> u & 1 for u in range(t))
+            if not left or not strategy[past]:
+                continue
+            if chosen >> t & 1:
+                got -= fine * weight
+                break
+            got += weight
+            left -= 1
+    return got / sum(weight for chosen, weight in plans)
+
+
+def every_strategy(days):
+    pasts = [past for t in range(days) for past in product((0, 1), repeat=t)]
+    for dares in product((0, 1), repeat=len(pasts)):
+        yield dict(zip(pasts, dares))
+
+
+def some_tables(how_many, seed, longest=4, heaviest=6):
+    """Tables drawn at random, the same ones each time: (days, misdeeds, fine, plans)."""
+    chosen = random.Random(seed)
+    for trial in range(how_many):
+        days = chosen.randint(1, longest)
+        plans = tuple(
+            (chosen.randrange(2 ** days), chosen.randint(1, heaviest)) for each in range(chosen.randint(1, 10))
+        )
+        yield days, chosen.randint(0, 6), chosen.choice((1, 1, 2, 3, 9)), plans

@@ -2,9 +2,8 @@
 
 import unittest
 from fractions import Fraction
-from itertools import combinations
 
-from tests.helper import as_fraction, as_fractions, ask, every_season, laid_out, today, value
+from tests.helper import as_fraction, as_fractions, ask, drawn_chance, every_season, laid_out, today, value
 
 
 class OverManySeasons(unittest.TestCase):
@@ -125,17 +124,6 @@ class DaysAlike(unittest.TestCase):
                     for misdeeds in range(1, 6):
                         line = laid_out((1,) * length, looks, misdeeds, fine)
                         self.assertEqual(as_fraction(ask(line + ", look")[-1]), expected, line)
-
-
-def drawn_chance(length, looks, fine):
-    """How heavy the sets of at most so many days are that have the next day, by all together."""
-    with_next = together = Fraction(0)
-    for size in range(looks + 1):
-        for days in combinations(range(length), size):
-            heavy = fine ** (looks - size)
-            together += heavy
-            with_next += heavy if 0 in days else 0
-    return with_next / together
 
 
 def every_way(line, days, looks, misdeeds, t=0):

@@ -6,7 +6,9 @@ from inspector.season import answers
 from tests.helper import laid_out, written
 
 LINE = written(laid_out((3, 1, 2), 1, 2, 2) + ", told, toeven, toplans, best, four, play 0 1, mean, brings 0 3, "
-               "ifbrings 1 0, without 0, caught, brought, evenday 0 1, left, undo, undo, past, told, play 7 7")
+               "ifbrings 1 0, without 0, caught, brought, evenday 0 1, left, evenworth, evenlook, evendare, done, "
+               "looked 1, spare 1, finefor 7, plan 5 3, plan 0 2, plan 5 1, weight 1 9, dropplan 2, reply, daresnow, "
+               "seen 1 1 2, over, plansdone, plans, undo, undo, fair 1, plans, past, told, play 7 7, plan 8 1")
 
 
 class Interface(unittest.TestCase):
@@ -21,6 +23,32 @@ class Interface(unittest.TestCase):
             answers([0, 1, 1, 2, 10, 2, 10, 1, 31, 0, 0, 32, 33, 6, 33, 7, 8, 9, 15, 3, 27, 1, 29, 21, 0, 0, 1]),
             [1, 0, 1, 0, 1, 1, 2, 0, 0, 2, 0, 0, 4, 0, 0, 0, 2, 1, 2, 4, 2, 1, 1, 2, 1, 2, 1, 4, 1, 4,
              1, 2, 3, 0, 1, 2, 1, 0, 3, 0, 1, 1],
+        )
+
+    def test_the_numbers_of_the_alike_season_s_calls(self):
+        laid = [0, 1, 1, 2, 10, 3, 10, 0, 6]
+        self.assertEqual(
+            answers(laid + [33, 34, 35, 36, 37, 3, 1, 2, 38, 9, 39, 10, 40, 50])[len(answers(laid)):],
+            [4, 2, 1, 1, 2, 3, 0, 1, 4, 3, 0, 1, 4, 3, 0, 1, 4, 3, 0, 3, 5, 3, 0, 1, 11, 3, 0, 7, 10, 3, 0, -1, 2],
+        )
+        self.assertEqual(
+            answers(laid + [41, 42, 43, 1, 44, 0, 45, 4, 46, 4, 46, 101, 31, 1, 1, 34, 35])[len(answers(laid)):],
+            [3, 0, 1, 16, 3, 0, 3, 8, 3, 0, 1, 4, 3, 0, 1, 2, 1, 2, 1, 3, 1, -33, 2, 0, -2, 3, 0, 0, 1, 1, -6],
+        )
+
+    def test_the_numbers_of_the_table_s_calls(self):
+        laid = [0, 1, 1, 2, 10, 3, 10, 0, 7]
+        self.assertEqual(
+            answers(laid + [47, 1, 1, 47, 2, 1, 47, 3, 9, 48, 2, 49, 0, 2, 49, 0, 1, 50, 2, 50, 1, 51, 9, 51, 1, 66])
+            [len(answers(laid)):],
+            [1, 0, 1, 1, 1, 2, 1, 2, 1, 1, 1, 2, 1, 1, 1, 2, 1, 2, 1, 9, 8, 2, 1, 1, 2, 1, 1, 2, 1],
+        )
+        laid = laid + [51, 1, 47, 1, 1, 47, 2, 1]
+        self.assertEqual(
+            answers(laid + [53, 54, 55, 1, 1, 1, 56, 1, 57, 58, 59, 1, 60, 61, 1, 2, 62, 2, 63, 64, 65, 52, 1, 66])
+            [len(answers(laid)):],
+            [3, 0, 1, 2, 1, 0, 3, 0, 1, 1, 3, 0, 1, 2, 3, 0, 1, 1, 1, 1, 3, 0, 1, 3, 3, 0, 1, 6, 3, 0, 1, 3, 3, 0, 1, 2,
+             3, 0, 0, 1, 3, 0, 1, 2, 3, 0, 0, 1, 1, 3, 10, 2, 1, 1, 3, 0, 1, 1, 1, 2, 1],
         )
 
     def test_what_is_handed_in_is_not_changed(self):
